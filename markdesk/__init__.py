@@ -1,0 +1,1 @@
+"""Marks: how well texts answer what is asked, in exact fractions."""
