@@ -87,6 +87,36 @@ class Marks(unittest.TestCase):
         self.assertEqual(last(put(1, 0, [5], []), ask((5, 10)), mark(1)), [15714285])
 
 
+class MoreAndLonger(unittest.TestCase):
+    TEXTS = ((1, 20, [5, 6], [5, 7, 8]), (2, 0, [6], [5, 5, 9]), (3, 0, [], [7, 8]))
+
+    def marks(self, first, settings):
+        texts = [put(*first)] + [put(*text) for text in self.TEXTS[1:]]
+        return [given[0] for given in run(*texts, settings, ask((5, 3)), mark(1), mark(2), mark(3))[-3:]]
+
+    def test_more_of_a_word_it_has_makes_no_mark_less(self):
+        for a in range(11):
+            settings = tune(a, 12, 3, 1)
+            before = self.marks(self.TEXTS[0], settings)
+            for head, body in (([5, 6, 5], [5, 7, 8]), ([5, 6], [5, 7, 8, 5]), ([5, 5], [5, 7, 8]), ([5, 6], [5, 5, 8])):
+                after = self.marks((1, 20, head, body), settings)
+                self.assertGreater(after[0], before[0], (a, head, body))
+                self.assertTrue(after[1] >= before[1] and after[2] >= before[2], (a, head, body))
+
+    def test_longer_makes_its_mark_no_more(self):
+        for a in range(11):
+            settings = tune(a, 12, 3, 1)
+            before = self.marks(self.TEXTS[0], settings)
+            for head, body in (([5, 6, 6], [5, 7, 8]), ([5, 6], [5, 7, 8, 9]), ([5, 6] + [9] * 10, [5] + [9] * 11)):
+                after = self.marks((1, 20, head, body), settings)
+                self.assertLessEqual(after[0], before[0], (a, head, body))
+
+    def test_a_word_that_more_texts_have_is_less_rare(self):
+        # How rare 3/2, then 3/3; how full 1 both times.
+        self.assertEqual(last(put(1, 0, [], [5]), put(2, 0, [], [6]), ask((5, 1)), mark(1)), [1500000])
+        self.assertEqual(last(put(1, 0, [], [5]), put(2, 0, [], [5]), ask((5, 1)), mark(1)), [1000000])
+
+
 class Best(unittest.TestCase):
     TEXTS = (put(9, 0, [], [5]), put(2, 0, [5], [5]), put(7, 0, [5], []), put(1, 0, [6], [6]), put(3, 100, [], []))
 
