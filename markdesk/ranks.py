@@ -1,19 +1,27 @@
 """The calls on a desk, handed over and answered as lists of whole numbers."""
 
-from markdesk.reckon import Desk, Text, mark_of, ranked, shown
+from markdesk.reckon import Desk, Text, density, how_full, how_many_have, how_rare, is_asked, is_first_if_changed
+from markdesk.reckon import is_greater, lowest, mark_of, not_asked_in, ranked, shown, what_it_gives
 
 PUT = 0
 DROP = 1
 TUNE = 2
 ASK = 3
 MARK = 4
+BEST = 5
+WHY = 6
+VERSUS = 7
+PLACE = 8
+LIFT = 9
 
-# By the number of a call, 0 to 5: how many whole numbers stand between it and its row, or the next call.
-PLAIN_COUNTS = (3, 1, 4, 0, 1, 1)
+# By the number of a call, 0 to 10: how many whole numbers stand between it and its row, or the next call.
+PLAIN_COUNTS = (3, 1, 4, 0, 1, 1, 1, 2, 1, 2, 1)
 
 # Refusals.
 OUT_OF_BOUNDS = -1
+NOT_ASKED = -2
 NO_SUCH_TEXT = -3
+NEVER_FIRST = -6
 
 MOST_KEYS = 30
 MOST_PRIOR = 100
@@ -101,6 +109,63 @@ def best(desk, most):
     return answer
 
 
+def reasons(desk, word, text):
+    """Three counts and three fractions: why an asked word gives the text what it gives."""
+    dense = density(desk, word, text)
+    counts = [text.head.count(word), text.body.count(word), how_many_have(desk, word)]
+    return counts + lowest(how_rare(desk, word)) + lowest(dense) + lowest(how_full(desk, dense))
+
+
+def why(desk, key):
+    if key not in desk.texts:
+        return [NO_SUCH_TEXT]
+    answer = []
+    for word, weight in desk.asked:
+        answer.extend(reasons(desk, word, desk.texts[key]))
+    return answer
+
+
+def versus(desk, one, other):
+    if one not in desk.texts or other not in desk.texts:
+        return [NO_SUCH_TEXT]
+    mark_of_one = mark_of(desk, desk.texts[one])
+    mark_of_other = mark_of(desk, desk.texts[other])
+    if is_greater(mark_of_one, mark_of_other):
+        return [1]
+    if is_greater(mark_of_other, mark_of_one):
+        return [2]
+    return [0]
+
+
+def place(desk, key):
+    keys = [ranked_key for ranked_key, exact_mark in ranked(desk)]
+    if key not in keys:
+        return [NO_SUCH_TEXT]
+    return [keys.index(key) + 1]
+
+
+def lift(desk, key, word):
+    if key not in desk.texts:
+        return [NO_SUCH_TEXT]
+    if not is_asked(desk, word):
+        return [NOT_ASKED]
+    most = not_asked_in(desk, desk.texts[key].body)
+    # The fewest first: the first count that is enough is the least.
+    for how_many in range(most + 1):
+        if is_first_if_changed(desk, key, word, how_many):
+            return [how_many]
+    return [NEVER_FIRST]
+
+
+def parts(desk, key):
+    if key not in desk.texts:
+        return [NO_SUCH_TEXT]
+    answer = [len(desk.asked)]
+    for word, weight in desk.asked:
+        answer.append(shown(what_it_gives(desk, word, weight, desk.texts[key])))
+    return answer
+
+
 def answer_of(desk, number, plain, row):
     """Carry out one call, told as its number, its whole numbers and its row."""
     if number == PUT:
@@ -113,8 +178,18 @@ def answer_of(desk, number, plain, row):
         return ask(desk, row)
     if number == MARK:
         return mark(desk, plain[0])
-    # Only best is left: no other number is handed in.
-    return best(desk, plain[0])
+    if number == BEST:
+        return best(desk, plain[0])
+    if number == WHY:
+        return why(desk, plain[0])
+    if number == VERSUS:
+        return versus(desk, plain[0], plain[1])
+    if number == PLACE:
+        return place(desk, plain[0])
+    if number == LIFT:
+        return lift(desk, plain[0], plain[1])
+    # Only parts is left: no other number is handed in.
+    return parts(desk, plain[0])
 
 
 def end_of_call(calls, number, plain_end):

@@ -45,6 +45,21 @@ def shown(x):
     return x[0] * MILLION // x[1]
 
 
+def greatest_divisor(x, y):
+    """The greatest whole number that divides both x and y; y is not 0."""
+    while y > 0:
+        rest = x % y
+        x = y
+        y = rest
+    return x
+
+
+def lowest(x):
+    """What is above and what is below the line of x in lowest terms, as a list."""
+    divisor = greatest_divisor(x[0], x[1])
+    return [x[0] // divisor, x[1] // divisor]
+
+
 def has_word(text, word):
     return word in text.head or word in text.body
 
@@ -121,3 +136,50 @@ def ranked(desk):
             mark = mark_of(desk, text)
             better_first.insert(place_among(better_first, mark), (key, mark))
     return better_first
+
+
+def is_first(desk, key):
+    better_first = ranked(desk)
+    return len(better_first) > 0 and better_first[0][0] == key
+
+
+def is_asked(desk, word):
+    return word in [asked_word for asked_word, weight in desk.asked]
+
+
+def not_asked_in(desk, body):
+    """How many words of body are not asked: these are the ones that a lift may change."""
+    return len([word for word in body if not is_asked(desk, word)])
+
+
+def body_changed(desk, body, word, how_many):
+    """A copy of body; of its words that are not asked the first how_many are word there."""
+    changed = []
+    left = how_many
+    for old in body:
+        if left > 0 and not is_asked(desk, old):
+            changed.append(word)
+            left = left - 1
+        else:
+            changed.append(old)
+    return changed
+
+
+def desk_with(desk, key, text):
+    """Another desk, like this one but for the text of key, so that trying a change leaves this one as it is."""
+    other = Desk()
+    other.texts = dict(desk.texts)
+    other.texts[key] = text
+    other.asked = list(desk.asked)
+    other.a = desk.a
+    other.b = desk.b
+    other.c = desk.c
+    other.d = desk.d
+    return other
+
+
+def is_first_if_changed(desk, key, word, how_many):
+    """Would text key be the first if the first how_many words of its body that are not asked were word?"""
+    text = desk.texts[key]
+    changed = Text(text.prior, text.head, body_changed(desk, text.body, word, how_many))
+    return is_first(desk_with(desk, key, changed), key)

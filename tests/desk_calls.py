@@ -37,6 +37,26 @@ def best(n):
     return [5, n]
 
 
+def why(k):
+    return [6, k]
+
+
+def versus(i, j):
+    return [7, i, j]
+
+
+def place(k):
+    return [8, k]
+
+
+def lift(k, w):
+    return [9, k, w]
+
+
+def parts(k):
+    return [10, k]
+
+
 def line(calls):
     return [number for call in calls for number in call]
 
@@ -82,9 +102,14 @@ PROBE = (
 )
 
 
-def assert_refused(test, call, refusal):
+def assert_changes_nothing(test, call, answer, setup=SETUP):
+    """Behind the setup the call gets this answer, and all stays as it was."""
+    before = run(*setup, *PROBE)
+    after = run(*setup, call, *PROBE)
+    test.assertEqual(after[len(setup)], answer, call)
+    test.assertEqual(after[:len(setup)] + after[len(setup) + 1:], before, call)
+
+
+def assert_refused(test, call, refusal, setup=SETUP):
     """The call is answered by the refusal alone, and all stays as it was."""
-    before = run(*SETUP, *PROBE)
-    after = run(*SETUP, call, *PROBE)
-    test.assertEqual(after[len(SETUP)], [refusal])
-    test.assertEqual(after[:len(SETUP)] + after[len(SETUP) + 1:], before)
+    assert_changes_nothing(test, call, [refusal], setup)

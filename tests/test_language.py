@@ -1,4 +1,4 @@
-"""The part of Python that the package keeps to, as far as a short look at its files can tell (L1 to L25)."""
+"""The part of Python that the package keeps to, as far as a short look at its files can tell (L1 to L28)."""
 
 import ast
 import builtins
@@ -29,6 +29,12 @@ NOT_A_WORD = re.compile(r"\b(type|typing|typing_extensions|enum|Enum|IntEnum|Str
                         r"|dataclass|overload|contextmanager")
 
 
+# L26: what an object's value may be called though a value of Python's own has a method of that name.
+VALUES_TOO = set("count index title find get join lower upper split strip copy add".split())
+TAKEN = {name for kind in (str, int, list, tuple, dict, set, frozenset, bytes) for name in dir(kind)} - VALUES_TOO
+NAME = re.compile(r"^[A-Za-z][A-Za-z0-9_]*$")
+
+
 def files():
     return sorted(path for path in PACKAGE.rglob("*") if path.is_file() and path.parent.name != "__pycache__")
 
@@ -38,6 +44,27 @@ def nodes(kind):
         for node in ast.walk(ast.parse(path.read_text())):
             if isinstance(node, kind):
                 yield path.name, node
+
+
+def bound_at_the_top(tree):
+    """The names that a file's top binds, each as often as it is bound."""
+    names = []
+    for node in tree.body:
+        if isinstance(node, ast.ImportFrom):
+            names += [alias.asname or alias.name for alias in node.names]
+        elif isinstance(node, (ast.FunctionDef, ast.ClassDef)):
+            names.append(node.name)
+        elif isinstance(node, ast.Assign):
+            names += [target.id for target in node.targets]
+    return names
+
+
+def imported(tree):
+    return [alias.name for node in tree.body if isinstance(node, ast.ImportFrom) for alias in node.names]
+
+
+def imports_and_classes(tree):
+    return imported(tree) + [node.name for node in tree.body if isinstance(node, ast.ClassDef)]
 
 
 class Language(unittest.TestCase):
@@ -98,6 +125,63 @@ class Language(unittest.TestCase):
         for where, node in nodes(ast.Call):
             if isinstance(node.func, ast.Attribute):
                 self.assertIn(node.func.attr, OWN_METHODS, (where, node.lineno))
+
+    def test_plain_names(self):
+        for where, node in nodes((ast.arg, ast.Attribute, ast.FunctionDef, ast.ClassDef)):
+            name = getattr(node, "arg", None) or getattr(node, "attr", None) or node.name
+            if name != "__init__":
+                self.assertRegex(name, NAME, (where, node.lineno))
+
+    def test_each_name_once(self):
+        for path in files():
+            tree = ast.parse(path.read_text())
+            names = bound_at_the_top(tree)
+            self.assertEqual(len(set(names)), len(names), path)
+            taken = imports_and_classes(tree)
+            for node in ast.walk(tree):
+                if isinstance(node, ast.arg):
+                    self.assertNotIn(node.arg, taken, (path, node.lineno))
+                if isinstance(node, ast.Name) and isinstance(node.ctx, ast.Store):
+                    self.assertNotIn(node.id, taken, (path, node.lineno))
+
+    def test_imports_from_where_the_name_is_defined(self):
+        for where, node in nodes(ast.ImportFrom):
+            source = PACKAGE.parent.joinpath(*node.module.split(".")).with_suffix(".py")
+            tree = ast.parse(source.read_text())
+            for alias in node.names:
+                self.assertIn(alias.name, bound_at_the_top(tree), (where, node.lineno))
+                self.assertNotIn(alias.name, imported(tree), (where, node.lineno))
+
+    def test_no_annotations(self):
+        for where, node in nodes(ast.arg):
+            self.assertIsNone(node.annotation, (where, node.lineno))
+        for where, node in nodes(ast.FunctionDef):
+            self.assertIsNone(node.returns, (where, node.lineno))
+
+    def test_values_of_objects(self):
+        for where, node in nodes(ast.Attribute):
+            if isinstance(node.ctx, ast.Store):
+                self.assertNotIn(node.attr, TAKEN, (where, node.lineno))
+
+    def test_powers_and_texts(self):
+        for where, node in nodes(ast.BinOp):
+            if isinstance(node.op, ast.Pow):
+                self.assertIsInstance(node.right, ast.Constant, (where, node.lineno))
+                self.assertIn(node.right.value, range(65), (where, node.lineno))
+        for where, node in nodes(ast.Constant):
+            if isinstance(node.value, str):
+                self.assertNotIn("%", node.value, (where, node.lineno))
+
+    def test_init_gives_back_nothing(self):
+        for where, node in nodes(ast.FunctionDef):
+            if node.name == "__init__":
+                given_back = [inner.value for inner in ast.walk(node) if isinstance(inner, ast.Return)]
+                self.assertEqual([value for value in given_back if value is not None], [], (where, node.lineno))
+
+    def test_methods_with_two_underscores(self):
+        for where, node in nodes(ast.FunctionDef):
+            if node.name.startswith("__"):
+                self.assertEqual(node.name, "__init__", (where, node.lineno))
 
 
 if __name__ == "__main__":

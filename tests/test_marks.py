@@ -98,7 +98,8 @@ class MoreAndLonger(unittest.TestCase):
         for a in range(11):
             settings = tune(a, 12, 3, 1)
             before = self.marks(self.TEXTS[0], settings)
-            for head, body in (([5, 6, 5], [5, 7, 8]), ([5, 6], [5, 7, 8, 5]), ([5, 5], [5, 7, 8]), ([5, 6], [5, 5, 8])):
+            for head, body in (([5, 6, 5], [5, 7, 8]), ([5, 6], [5, 7, 8, 5]), ([5, 5], [5, 7, 8]),
+                               ([5, 6], [5, 5, 8])):
                 after = self.marks((1, 20, head, body), settings)
                 self.assertGreater(after[0], before[0], (a, head, body))
                 self.assertTrue(after[1] >= before[1] and after[2] >= before[2], (a, head, body))
